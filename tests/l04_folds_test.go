@@ -84,8 +84,7 @@ func countLetters(s string, letters string) int {
 	return count
 }
 
-// foldedSheet folds a sheet by hand, fold by fold, and returns the pile that is left, from the top
-// to the bottom. Columns are put upon one another row by row, and rows column by column.
+// foldedSheet folds a sheet by hand and returns the pile that is left, from the top to the bottom.
 func foldedSheet(size sheetSize, scheme string) []impl.Leaf {
 	grid := make([][][]impl.Leaf, size.high)
 	for y := range grid {
@@ -93,16 +92,25 @@ func foldedSheet(size sheetSize, scheme string) []impl.Leaf {
 			grid[y] = append(grid[y], []impl.Leaf{{X: x, Y: int64(y)}})
 		}
 	}
+	return foldedGrid(grid, scheme,
+		func(leaf *impl.Leaf) { leaf.FlipX = !leaf.FlipX },
+		func(leaf *impl.Leaf) { leaf.FlipY = !leaf.FlipY })
+}
+
+// foldedGrid folds a grid of piles fold by fold and returns the pile that is left. Columns are put
+// upon one another row by row, and rows column by column; the functions turn over what folds
+// across and folds along move.
+func foldedGrid[T any](grid [][][]T, scheme string, across func(cell *T), along func(cell *T)) []T {
 	for _, letter := range scheme {
 		switch letter {
 		case 'L', 'R':
 			for y, row := range grid {
-				grid[y] = foldedRow(row, letter == 'L', func(leaf *impl.Leaf) { leaf.FlipX = !leaf.FlipX })
+				grid[y] = foldedRow(row, letter == 'L', across)
 			}
 		case 'T', 'B':
 			columns := exchangedAxes(grid)
 			for x, column := range columns {
-				columns[x] = foldedRow(column, letter == 'T', func(leaf *impl.Leaf) { leaf.FlipY = !leaf.FlipY })
+				columns[x] = foldedRow(column, letter == 'T', along)
 			}
 			grid = exchangedAxes(columns)
 		}
@@ -111,13 +119,13 @@ func foldedSheet(size sheetSize, scheme string) []impl.Leaf {
 }
 
 // foldedRow puts one half of a row of piles, turned over, on top of the other half.
-func foldedRow(row [][]impl.Leaf, firstMoves bool, turn func(leaf *impl.Leaf)) [][]impl.Leaf {
+func foldedRow[T any](row [][]T, firstMoves bool, turn func(cell *T)) [][]T {
 	half := len(row) / 2
 	moving, lying := row[half:], row[:half]
 	if firstMoves {
 		moving, lying = lying, moving
 	}
-	var result [][]impl.Leaf
+	var result [][]T
 	for i := range half {
 		pile := slices.Clone(moving[half-1-i])
 		slices.Reverse(pile)
@@ -130,8 +138,8 @@ func foldedRow(row [][]impl.Leaf, firstMoves bool, turn func(leaf *impl.Leaf)) [
 }
 
 // exchangedAxes returns the columns of a grid as rows.
-func exchangedAxes(grid [][][]impl.Leaf) [][][]impl.Leaf {
-	result := make([][][]impl.Leaf, len(grid[0]))
+func exchangedAxes[T any](grid [][][]T) [][][]T {
+	result := make([][][]T, len(grid[0]))
 	for x := range result {
 		for y := range grid {
 			result[x] = append(result[x], grid[y][x])
