@@ -167,9 +167,14 @@ func EvenShares(n int64, k int64) ([]int64, int64) {
 	return result, ErrNone
 }
 
+// isLength reports whether n is a length in tenths of a millimetre.
+func isLength(n int64) bool {
+	return n >= 0 && n <= MaxNumber
+}
+
 // LengthText returns the text of a length, or "" if n is not one.
 func LengthText(n int64) string {
-	if n < 0 || n > MaxNumber {
+	if !isLength(n) {
 		return ""
 	}
 	return strconv.FormatInt(n/10, 10) + "." + strconv.FormatInt(n%10, 10)
